@@ -105,8 +105,35 @@ func arityFault(t *testing.T, read func(s string) (api.Node, api.Flaw), s string
 	}
 	wantRefused(t, read, s+",", api.ErrLimit, len(s)+1)
 	wantRefused(t, read, s+", % \n ", api.ErrLimit, len(s)+6)
-	// All ahead of the flaw is gone over, and there is no token behind the comma.
-	wantRefused(t, read, s+", #", api.ErrScan, len(s)+2)
+	// Where what stands behind the comma is no token, there is none there.
+	for _, flawed := range noTokens() {
+		for _, behind := range []string{flawed, " " + flawed, " %,\n" + flawed + " a) ", flawed + flawed} {
+			wantRefused(t, read, s+","+behind, api.ErrLimit, len(s+","+behind))
+		}
+	}
+}
+
+// noTokens are texts at which a scan ends by a flaw.
+func noTokens() []string {
+	return []string{"#", "$", "\xff", strings.Repeat("b", 33), strings.Repeat("B", 40), "576460752303423489", "1152921504606846976"}
+}
+
+// P8.1: with a pattern or an argument fewer, a comma ahead of no token is none too many.
+func TestFewerAheadOfNoToken(t *testing.T) {
+	for _, flawed := range noTokens() {
+		e := api.ErrLimit
+		if len(flawed) == 1 {
+			e = api.ErrScan
+		}
+		for _, in := range []string{"f(", "m:f(", "X("} {
+			s := in + listed("a", 7) + ","
+			wantRefused(t, Expr, s+flawed+" a", e, len(s))
+			wantRefused(t, Expr, s+"b "+flawed, e, len(s)+2)
+		}
+		s := "module m. f(" + listed("X", 7) + ","
+		modsFault(t, s+flawed+") -> 1.", e, len(s))
+		modsFault(t, s+"X"+", % \n"+flawed, api.ErrLimit, len(s)+6+len(flawed))
+	}
 }
 
 // P8.1: lists that have no limit of their own.
@@ -269,8 +296,10 @@ func wantNest(t *testing.T, read func(s string) (api.Node, api.Flaw), first, las
 	}
 	wantRefused(t, read, s, api.ErrLimit, len(s))
 	wantRefused(t, read, s+" %a", api.ErrLimit, len(s)+3)
-	// All ahead of the flaw is gone over, and no token is there.
-	wantRefused(t, read, s+"#", api.ErrScan, len(s))
+	for _, flawed := range noTokens() {
+		wantRefused(t, read, s+flawed, api.ErrLimit, len(s+flawed))
+		wantRefused(t, read, s+" "+flawed+" }", api.ErrLimit, len(s+flawed)+3)
+	}
 }
 
 // P8.1: patterns and guard expressions within expressions count, too; what is closed does not, and neither do the rules between.
@@ -281,7 +310,9 @@ func TestOtherNests(t *testing.T) {
 		wantRefused(t, Expr, s+"{a", api.ErrLimit, len(s)+1)
 		wantRefused(t, Expr, s+"[{", api.ErrLimit, len(s)+1)
 		wantRefused(t, Expr, s+"{", api.ErrLimit, len(s)+1)
-		wantRefused(t, Expr, s+"{#", api.ErrScan, len(s)+1)
+		wantRefused(t, Expr, s+"{#", api.ErrLimit, len(s)+2)
+		wantRefused(t, Expr, s+"#", api.ErrScan, len(s))
+		wantRefused(t, Expr, s+"{a #", api.ErrLimit, len(s)+1)
 		wantRefused(t, Expr, s+"a}", api.ErrParse, len(s)+1)
 	}
 	for first, last := range map[string]string{"{": "}", "[": "]", "f(": ")", "X(": ")"} {
@@ -299,7 +330,9 @@ func TestOtherNests(t *testing.T) {
 		modsFault(t, in+full+"a", api.ErrLimit, len(in+full))
 		modsFault(t, in+full+"{", api.ErrLimit, len(in+full))
 		modsFault(t, in+full, api.ErrLimit, len(in+full))
-		modsFault(t, in+full+"#", api.ErrScan, len(in+full))
+		modsFault(t, in+full+"#", api.ErrLimit, len(in+full)+1)
+		modsFault(t, in+full+" $ }", api.ErrLimit, len(in+full)+4)
+		modsFault(t, in+full[1:]+"#", api.ErrScan, len(in+full)-1)
 		modsFault(t, in+full+"}", api.ErrParse, len(in+full)+1)
 		modsFault(t, in+full[1:], api.ErrParse, len(in+full)-1)
 		modsFault(t, in+full[1:]+".", api.ErrParse, len(in+full)-1)

@@ -167,12 +167,12 @@ func (m *model) word() string {
 	return wordOf(m.toks[m.at])
 }
 
-// stop ends it with a fault at a token, and is false.
+// stop ends it with a fault at a token, and is false. A flaw of the scan stands for a fault of the grammar alone.
 func (m *model) stop(e api.Errno, at int) bool {
 	switch {
 	case at < len(m.toks):
 		m.fault = api.Flaw{E: e, At: m.toks[at].At}
-	case m.flaw.E != api.OK:
+	case m.flaw.E != api.OK && e == api.ErrParse:
 		m.fault = m.flaw
 	default:
 		m.fault = api.Flaw{E: e, At: m.size}

@@ -22,7 +22,8 @@ type rule func(n *api.Node) (f api.Flaw)
 // reader reads a text token by token.
 type reader struct {
 	tokens []api.Token // those that are not gone over yet
-	last   api.Flaw    // what stands behind the tokens: a flaw of the scan, or none, at the text's length
+	flaw   api.Flaw    // the scan's, at which the tokens end, if there is one
+	size   int         // the text's length
 	deep   int         // how many nests stand in one another here
 
 	pattern, guarded, expr *nest
@@ -35,8 +36,8 @@ type nest struct {
 }
 
 func newReader(s string) *reader {
-	r := &reader{}
-	r.tokens, r.last = tokens(s)
+	r := &reader{size: len(s)}
+	r.tokens, r.flaw = tokens(s)
 	r.pattern, r.guarded, r.expr = &nest{reader: r}, &nest{reader: r}, &nest{reader: r}
 	r.pattern.ways = r.pattern.common()
 	r.guarded.ways = r.guardedWays()
@@ -44,16 +45,16 @@ func newReader(s string) *reader {
 	return r
 }
 
-// tokens are those of a text, up to its first flaw, and what stands behind them.
-func tokens(s string) (l []api.Token, last api.Flaw) {
-	l, last = scan.Scan(s)
-	if last.E == api.OK {
-		return l, api.Flaw{At: len(s)}
+// tokens are those of a text, up to its first flaw.
+func tokens(s string) (l []api.Token, f api.Flaw) {
+	l, f = scan.Scan(s)
+	if f.E == api.OK {
+		return l, f
 	}
 	for _, t := range scan.Each(s) {
 		l = append(l, t)
 	}
-	return l, last
+	return l, f
 }
 
 // read reads one of the nest, as long as not too many stand in one another.
@@ -113,20 +114,20 @@ func (r *reader) took(word string) bool {
 	return true
 }
 
-// refuse is a fault at the next token. Behind the last one a flaw of the scan goes ahead of any fault: all ahead of it is gone over.
+// refuse is a fault at the next token, or at the text's length. A flaw of the scan, at which the tokens end, goes ahead of what only says that no way goes on there; what is one too many stands ahead of that flaw.
 func (r *reader) refuse(e api.Errno) (f api.Flaw) {
 	switch {
 	case len(r.tokens) > 0:
 		return api.Flaw{E: e, At: r.tokens[0].At}
-	case r.last.E != api.OK:
-		return r.last
+	case r.flaw.E != api.OK && e != api.ErrLimit:
+		return r.flaw
 	}
-	return api.Flaw{E: e, At: r.last.At}
+	return api.Flaw{E: e, At: r.size}
 }
 
 // end goes on at the text's end alone.
 func (r *reader) end(*api.Node) (f api.Flaw) {
-	if len(r.tokens) > 0 || r.last.E != api.OK {
+	if len(r.tokens) > 0 || r.flaw.E != api.OK {
 		f = r.refuse(api.ErrParse)
 	}
 	return f
